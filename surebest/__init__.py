@@ -1,0 +1,1 @@
+"""Surebest: best answers with their reasons."""

@@ -1,0 +1,37 @@
+"""The names and arguments of the interface, as far as they have landed."""
+
+import importlib
+import inspect
+import unittest
+
+FUNCTIONS = {
+    "surebest.ratios": {
+        "ratio": ["top", "under"],
+        "plus": ["one", "other"],
+        "minus": ["one", "other"],
+        "times": ["one", "other"],
+        "over": ["one", "other"],
+        "is_less": ["one", "other"],
+        "dot": ["row", "other"],
+    },
+    "surebest.networks": {
+        "is_flow": ["places", "arcs", "start", "goal", "amounts"],
+        "size_of": ["places", "arcs", "goal", "amounts"],
+        "cut_size": ["arcs", "side"],
+        "cost_of": ["arcs", "amounts"],
+    },
+}
+
+
+class InterfaceTest(unittest.TestCase):
+    def test_names_and_arguments(self):
+        for module_name, functions in FUNCTIONS.items():
+            module = importlib.import_module(module_name)
+            for name, arguments in functions.items():
+                with self.subTest(module=module_name, name=name):
+                    parameters = inspect.signature(getattr(module, name)).parameters
+                    self.assertEqual(list(parameters), arguments)
+
+
+if __name__ == "__main__":
+    unittest.main()
