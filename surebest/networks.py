@@ -1,10 +1,34 @@
-"""Networks: flows and cuts, their sizes, and what a flow costs."""
+"""Networks: what is one, flows and cuts, their sizes, and what a flow costs."""
+
+from surebest.errors import NoNetwork
+
+MOST_PLACES = 12
+MOST_ARCS = 40
 
 # An arc is a tuple (from, to, room, cost); these are the places of its parts.
 FROM = 0
 TO = 1
 ROOM = 2
 COST = 3
+
+
+def is_place(places, place):
+    return 0 <= place and place < places
+
+
+def check_place(places, place):
+    if not is_place(places, place):
+        raise NoNetwork("a start or a goal is no place of the network")
+
+
+def check_network(places, arcs):
+    if places < 1 or places > MOST_PLACES:
+        raise NoNetwork("a network has 1 to 12 places")
+    if len(arcs) > MOST_ARCS:
+        raise NoNetwork("a network has up to 40 arcs")
+    for arc in arcs:
+        if not is_place(places, arc[FROM]) or not is_place(places, arc[TO]):
+            raise NoNetwork("an arc begins or ends at what is no place of the network")
 
 
 def fits(arc, amount):

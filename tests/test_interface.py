@@ -20,6 +20,21 @@ FUNCTIONS = {
         "cut_size": ["arcs", "side"],
         "cost_of": ["arcs", "amounts"],
     },
+    "surebest.flows": {
+        "greatest": ["places", "arcs", "start", "goal"],
+        "greatest_size": ["places", "arcs", "start", "goal"],
+    },
+    "surebest.ways": {
+        "nearest": ["places", "arcs", "start"],
+        "way_to": ["places", "arcs", "start", "goal"],
+        "length_of": ["arcs", "way"],
+        "is_walk": ["arcs", "way", "start", "goal"],
+    },
+    "surebest.differences": {
+        "numbers_for": ["many", "bounds"],
+        "kept": ["numbers", "bounds"],
+        "is_ring": ["bounds", "ring"],
+    },
 }
 
 

@@ -5,40 +5,12 @@ import itertools
 import random
 import unittest
 
-from surebest.networks import cost_of, cut_size, is_flow, size_of
+from plain import LONG, NO_NETWORKS, drawn_arcs, plain_cut_size, plain_in, plain_is_flow, plain_out
+from surebest.errors import NoNetwork
+from surebest.networks import check_network, cost_of, cut_size, is_flow, size_of
 
 # Two ways from 0 to 3, an arc across, an arc from a place to itself, and an arc twice.
 SQUARE = [(0, 1, 3, 2), (0, 2, 2, -1), (1, 2, 1, 0), (1, 3, 2, 5), (2, 3, 4, 1), (2, 2, 7, 3), (0, 1, 3, 9)]
-LONG = 10 ** 99 + 289
-
-
-def plain_in(arcs, place, amounts):
-    return sum(amounts[at] for at, (_, to, _, _) in enumerate(arcs) if to == place)
-
-
-def plain_out(arcs, place, amounts):
-    return sum(amounts[at] for at, (begin, _, _, _) in enumerate(arcs) if begin == place)
-
-
-def plain_is_flow(places, arcs, start, goal, amounts):
-    within = all(0 <= amount <= arc[2] for amount, arc in zip(amounts, arcs))
-    inner = [place for place in range(places) if place not in (start, goal)]
-    return within and all(plain_in(arcs, place, amounts) == plain_out(arcs, place, amounts) for place in inner)
-
-
-def plain_cut_size(arcs, side):
-    total = 0
-    for begin, to, room, _ in arcs:
-        if side.count(begin) > 0 and side.count(to) == 0:
-            total += room
-    return total
-
-
-def drawn_arcs(chance, places, many, most):
-    return [
-        (chance.randrange(places), chance.randrange(places), chance.randint(-1, most), chance.randint(-most, most))
-        for _ in range(many)
-    ]
 
 
 def drawn_flow(chance, places, arcs):
@@ -54,6 +26,26 @@ def drawn_flow(chance, places, arcs):
             roomy.append(((place + 1) % places, place, -spare, 1))
             amounts.append(-spare)
     return roomy, amounts
+
+
+class CheckNetworkTest(unittest.TestCase):
+    """What the functions that say NoNetwork refuse of a network, whatever they ask beyond it."""
+
+    def test_what_is_no_network(self):
+        for places, arcs in NO_NETWORKS:
+            with self.assertRaises(NoNetwork, msg=(places, arcs)):
+                check_network(places, arcs)
+
+    def test_what_is_a_network(self):
+        for places, arcs in [
+            (1, []),
+            (1, [(0, 0, 1, 1)]),
+            (12, []),
+            (12, [(0, 11, 1, 1), (11, 0, 1, 1)]),
+            (2, [(0, 1, 1, 1)] * 40),
+            (2, [(0, 1, -LONG, -LONG), (1, 1, LONG, LONG), (1, 0, 0, 0)]),
+        ]:
+            check_network(places, arcs)
 
 
 class IsFlowTest(unittest.TestCase):
@@ -147,7 +139,7 @@ class IsFlowTest(unittest.TestCase):
         chance = random.Random(12)
         for places in [1, 2, 5, 12, 13, 15]:
             for many in [0, 3, 28, 40]:
-                arcs, amounts = drawn_flow(chance, places, drawn_arcs(chance, places, many, 9))
+                arcs, amounts = drawn_flow(chance, places, drawn_arcs(chance, places, many, -1, 9))
                 start, goal = chance.randrange(places), chance.randrange(places)
                 self.assertIs(is_flow(places, arcs, start, goal, amounts), True)
                 for at in range(len(amounts)):
@@ -212,7 +204,7 @@ class SizesTest(unittest.TestCase):
         for most in [4, 10 ** 100 - 1]:
             for places, many in [(1, 3), (2, 6), (5, 12), (12, 40), (14, 44)]:
                 for _ in range(10):
-                    arcs = drawn_arcs(chance, places, many, most)
+                    arcs = drawn_arcs(chance, places, many, -1, most)
                     amounts = [chance.randint(0, most) for _ in arcs]
                     side = [chance.randrange(places) for _ in range(chance.randrange(places + 2))]
                     for goal in range(places):
