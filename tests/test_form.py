@@ -124,6 +124,48 @@ class FormTest(unittest.TestCase):
                 if isinstance(node, ast.Call) and isinstance(node.func, ast.Attribute):
                     self.assertIn(node.func.attr, own | set(METHODS), f"L25 {name}: {node.lineno}")
 
+    def test_plain_functions_and_loops(self):
+        for name, _, tree in read_files():
+            for node in ast.walk(tree):
+                where = f"{name}: {getattr(node, 'lineno', '')}"
+                if isinstance(node, ast.arguments):
+                    self.assertEqual((node.vararg, node.kwarg, node.kwonlyargs), (None, None, []), f"L4 {where}")
+                if isinstance(node, (ast.FunctionDef, ast.ClassDef)):
+                    self.assertEqual(node.decorator_list, [], f"L4 L5 {where}")
+                if isinstance(node, (ast.For, ast.While)):
+                    self.assertEqual(node.orelse, [], f"L6 {where}")
+                if isinstance(node, ast.ListComp):
+                    self.assertEqual(len(node.generators), 1, f"L7 {where}")
+                    self.assertLessEqual(len(node.generators[0].ifs), 1, f"L7 {where}")
+
+    def test_is_stands_beside_none_and_the_truths_alone(self):
+        for name, _, tree in read_files():
+            for node in ast.walk(tree):
+                if isinstance(node, ast.Compare) and isinstance(node.ops[0], (ast.Is, ast.IsNot)):
+                    kinds = [type(side.value) for side in [node.left] + node.comparators
+                             if isinstance(side, ast.Constant)]
+                    self.assertTrue(set(kinds) & {bool, type(None)}, f"L20 {name}: {node.lineno}")
+
+    def test_keywords_of_calls(self):
+        keywords = {"sorted": {"key", "reverse"}, "min": {"key", "default"}, "max": {"key", "default"},
+                    "sum": {"start"}, "enumerate": {"start"}, "zip": {"strict"}}
+        for name, _, tree in read_files():
+            for node in ast.walk(tree):
+                if isinstance(node, ast.Call):
+                    called = node.func.id if isinstance(node.func, ast.Name) else ""
+                    given = {keyword.arg for keyword in node.keywords}
+                    self.assertTrue(given <= keywords.get(called, set()), f"L22 {name}: {node.lineno}")
+
+    def test_no_two_files_draw_from_one_another(self):
+        draws = {
+            f"surebest.{name[:-3]}": [node.module for node in ast.walk(tree) if isinstance(node, ast.ImportFrom)]
+            for name, _, tree in read_files()
+        }
+        left = dict(draws)
+        for _ in draws:
+            left = {name: [other for other in drawn if other in left] for name, drawn in left.items() if drawn}
+        self.assertEqual(left, {}, "L16")
+
 
 if __name__ == "__main__":
     unittest.main()

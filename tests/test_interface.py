@@ -1,4 +1,4 @@
-"""The names and arguments of the interface, as far as they have landed."""
+"""The names and arguments of the interface."""
 
 import importlib
 import inspect
@@ -34,6 +34,25 @@ FUNCTIONS = {
         "numbers_for": ["many", "bounds"],
         "kept": ["numbers", "bounds"],
         "is_ring": ["bounds", "ring"],
+    },
+    "surebest.pairing": {
+        "paired": ["rows", "columns", "pairs"],
+        "is_cover": ["pairs", "cover"],
+        "are_apart": ["pairs", "taken"],
+    },
+    "surebest.giving": {
+        "given_columns": ["costs"],
+        "total": ["costs", "found"],
+        "are_prices": ["costs", "rows", "columns"],
+    },
+    "surebest.trees": {
+        "joined": ["places", "arcs"],
+        "reasons": ["arcs", "forest"],
+    },
+    "surebest.programs": {
+        "solved": ["rows", "limits", "goal"],
+        "keeps": ["rows", "limits", "parts"],
+        "are_prices_of": ["rows", "goal", "prices"],
     },
 }
 
